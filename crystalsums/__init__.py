@@ -1,0 +1,1 @@
+"""Exact sums over a crystal's points; the calls are in crystalsums.reflections."""
