@@ -4,7 +4,12 @@ A polynomial is a list of its coefficients, the lowest power's first.
 """
 
 LARGEST_ORDER = 120
+LARGEST_NUMBER = 1048575
+LARGEST_KIND = 255
+MOST_WEIGHTS = 255
+MOST_POINTS = 64
 NOT_AS_TOLD = -1
+NO_DESCRIPTION = -2
 
 
 def is_order(d):
@@ -20,18 +25,21 @@ def power_less_one(d):
     return [-1] + [0] * (d - 1) + [1]
 
 
-def quotient(whole, part):
-    """What part must be multiplied with to make whole; part's highest coefficient is 1 and it divides whole."""
+def divided(whole, part):
+    """The quotient and what's left, which has as many coefficients as part's degree; part's highest one is 1.
+
+    whole has at least as many coefficients as part's degree.
+    """
     left = list(whole)
     degree = len(part) - 1
-    answer = [0] * (len(whole) - degree)
+    quotient = [0] * (len(whole) - degree)
     # From the top down: as part begins with 1, each step's factor is the coefficient itself and stays whole.
-    for place in range(len(answer) - 1, -1, -1):
+    for place in range(len(quotient) - 1, -1, -1):
         factor = left[place + degree]
-        answer[place] = factor
+        quotient[place] = factor
         for k in range(len(part)):
             left[place + k] -= factor * part[k]
-    return answer
+    return (quotient, left[:degree])
 
 
 def cyclotomic(d):
@@ -42,9 +50,118 @@ def cyclotomic(d):
         left = power_less_one(k)
         for j in divisors(k):
             if j < k:
-                left = quotient(left, found[j])
+                left = divided(left, found[j])[0]
         found[k] = left
     return found[d]
+
+
+def one_row(powers):
+    """The row of a sum that is told by its d coefficients of z^0 to z^(d - 1)."""
+    return divided(powers, cyclotomic(len(powers)))[1]
+
+
+def are_within(numbers, least, most):
+    return all([least <= number <= most for number in numbers])
+
+
+def are_small(numbers):
+    return are_within(numbers, -LARGEST_NUMBER, LARGEST_NUMBER)
+
+
+def is_cell(cell):
+    """Whether these are the numbers of a cell, be it right or not."""
+    return len(cell) == 7 and are_small(cell) and cell[6] >= 1
+
+
+def is_row_of_points(points):
+    """Whether d is followed by whole points, be they a description's or not; none at all are whole too."""
+    return len(points) % 4 == 1
+
+
+def are_weights(weights):
+    return len(weights) <= MOST_WEIGHTS and are_small(weights)
+
+
+def is_index(h):
+    return len(h) == 3 and are_small(h)
+
+
+def determinant(cell):
+    """The determinant of the cell's matrix G."""
+    g11 = cell[0]
+    g22 = cell[1]
+    g33 = cell[2]
+    g23 = cell[3]
+    g13 = cell[4]
+    g12 = cell[5]
+    return g11 * (g22 * g33 - g23 * g23) - g12 * (g12 * g33 - g13 * g23) + g13 * (g12 * g23 - g13 * g22)
+
+
+def is_right(cell):
+    # All lengths are above 0 just if the three leading minors are; G being whole, this holds for whole columns
+    # as it does for all: where a length is 0, it is so for a whole column too.
+    return cell[0] > 0 and cell[0] * cell[1] > cell[5] * cell[5] and determinant(cell) > 0
+
+
+def listed(points):
+    """Each point's kind and three numbers."""
+    return [points[k:k + 4] for k in range(1, len(points), 4)]
+
+
+def is_point(point, d):
+    return 1 <= point[0] <= LARGEST_KIND and are_within(point[1:], 0, d - 1)
+
+
+def are_apart(found):
+    places = [tuple(point[1:]) for point in found]
+    return len(set(places)) == len(places)
+
+
+def is_description(cell, points):
+    d = points[0]
+    found = listed(points)
+    if not (is_right(cell) and is_order(d) and 1 <= len(found) <= MOST_POINTS):
+        return False
+    return all([is_point(point, d) for point in found]) and are_apart(found)
+
+
+def refusal(cell, points, weights, indices):
+    """The first refusal that fits what is handed over, or 0 if none does."""
+    if not (is_cell(cell) and is_row_of_points(points) and are_weights(weights)):
+        return NOT_AS_TOLD
+    if not all([is_index(h) for h in indices]):
+        return NOT_AS_TOLD
+    if not is_description(cell, points):
+        return NO_DESCRIPTION
+    return 0
+
+
+def weight_of(kind, weights):
+    return weights[kind - 1] if kind <= len(weights) else 0
+
+
+def sum_by_powers(points, weights, h):
+    """The sum of h, by its d coefficients of z^0 to z^(d - 1)."""
+    d = points[0]
+    powers = [0] * d
+    for point in listed(points):
+        exponent = h[0] * point[1] + h[1] * point[2] + h[2] * point[3]
+        powers[exponent % d] += weight_of(point[0], weights)
+    return powers
+
+
+def strength_by_powers(powers):
+    """A sum times its conjugate, both by their d coefficients of z^0 to z^(d - 1)."""
+    d = len(powers)
+    strength = [0] * d
+    for j in range(d):
+        for k in range(d):
+            strength[(j - k) % d] += powers[j] * powers[k]
+    return strength
+
+
+def strength_row(points, weights, h):
+    return one_row(strength_by_powers(sum_by_powers(points, weights, h)))
 
 
 def rank(d):
@@ -59,3 +176,19 @@ def poly(d):
     if not is_order(d):
         return [NOT_AS_TOLD]
     return [0] + cyclotomic(d)
+
+
+def summed(cell, points, weights, h):
+    """0 and the row of the sum of h, or a refusal."""
+    refused = refusal(cell, points, weights, [h])
+    if refused < 0:
+        return [refused]
+    return [0] + one_row(sum_by_powers(points, weights, h))
+
+
+def power(cell, points, weights, h):
+    """0 and the row of the strength of h, or a refusal."""
+    refused = refusal(cell, points, weights, [h])
+    if refused < 0:
+        return [refused]
+    return [0] + strength_row(points, weights, h)

@@ -1,14 +1,8 @@
-"""rank and poly: points 1 and 2 of the calls, promise 1, and the interface."""
+"""rank and poly: points 1 and 2 of the calls, and promise 1."""
 
-import contextlib
-import copy
-import importlib.util
-import io
 import math
-import sys
 import unittest
 
-from crystalsums import reflections
 from crystalsums.reflections import poly, rank
 
 ORDERS = range(1, 121)
@@ -129,65 +123,6 @@ class Refusals(unittest.TestCase):
             with self.subTest(d=d):
                 self.assertEqual(rank(d)[0], 0)
                 self.assertEqual(poly(d)[0], 0)
-
-
-class Interface(unittest.TestCase):
-    def test_answers_are_lists_of_plain_whole_numbers(self):
-        for d in list(ORDERS) + REFUSED:
-            for call in (rank, poly):
-                with self.subTest(call=call.__name__, d=d):
-                    answer = call(d)
-                    self.assertIs(type(answer), list)
-                    self.assertEqual({type(number) for number in answer}, {int})
-
-    def test_the_same_answer_again_after_the_first_was_changed(self):
-        for d in list(ORDERS) + REFUSED:
-            for call in (rank, poly):
-                with self.subTest(call=call.__name__, d=d):
-                    first = call(d)
-                    kept = list(first)
-                    self.assertEqual(call(d), kept)
-                    first[0] = 77
-                    first.append(88)
-                    self.assertEqual(call(d), kept)
-                    first.clear()
-                    self.assertEqual(call(d), kept)
-
-    def test_answers_do_not_depend_on_the_calls_before(self):
-        rising = {d: (rank(d), poly(d)) for d in ORDERS}
-        falling = {d: (rank(d), poly(d)) for d in reversed(ORDERS)}
-        self.assertEqual(rising, falling)
-
-    def test_nothing_is_kept_in_the_module(self):
-        # Loaded anew, as the calls of other tests may have left there already what these would.
-        spec = importlib.util.spec_from_file_location("loaded_anew", reflections.__file__)
-        anew = importlib.util.module_from_spec(spec)
-        spec.loader.exec_module(anew)
-
-        def shown():
-            return {name: copy.deepcopy(value) for name, value in vars(anew).items() if not name.startswith("__")}
-        before = shown()
-        for d in (1, 105, 120, 0, 121):
-            anew.rank(d)
-            anew.poly(d)
-        self.assertEqual(shown(), before)
-
-    def test_nothing_is_printed_or_read(self):
-        out, err = io.StringIO(), io.StringIO()
-        standard_input = sys.stdin
-        sys.stdin = None
-        try:
-            with contextlib.redirect_stdout(out), contextlib.redirect_stderr(err):
-                for d in (1, 105, 120, 0, 121):
-                    rank(d)
-                    poly(d)
-        finally:
-            sys.stdin = standard_input
-        self.assertEqual((out.getvalue(), err.getvalue()), ("", ""))
-
-    def test_the_argument_is_called_d(self):
-        self.assertEqual(rank(d=12), [0, 4])
-        self.assertEqual(poly(d=12), [0, 1, 0, -1, 0, 1])
 
 
 if __name__ == "__main__":
