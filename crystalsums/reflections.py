@@ -192,3 +192,19 @@ def power(cell, points, weights, h):
     if refused < 0:
         return [refused]
     return [0] + strength_row(points, weights, h)
+
+
+def zero(cell, points, weights, h):
+    """0 and 1 if the sum of h is nothing, else 0; or a refusal."""
+    refused = refusal(cell, points, weights, [h])
+    if refused < 0:
+        return [refused]
+    return [0, 0 if any(one_row(sum_by_powers(points, weights, h))) else 1]
+
+
+def equal(cell, points, weights, h, k):
+    """0 and 1 if h and k have the same strength, else 0; or a refusal."""
+    refused = refusal(cell, points, weights, [h, k])
+    if refused < 0:
+        return [refused]
+    return [0, 1 if strength_row(points, weights, h) == strength_row(points, weights, k) else 0]

@@ -16,6 +16,8 @@ PARAMETERS = {
     "poly": ["d"],
     "summed": ["cell", "points", "weights", "h"],
     "power": ["cell", "points", "weights", "h"],
+    "zero": ["cell", "points", "weights", "h"],
+    "equal": ["cell", "points", "weights", "h", "k"],
 }
 
 SMALL = described(6, (1, 0, 0, 0), (2, 1, 0, 0), (1, 2, 0, 0))
@@ -44,9 +46,12 @@ def cases():
     for name in ("rank", "poly"):
         for handed in ORDERS:
             yield name, copy.deepcopy(handed)
-    for name in ("summed", "power"):
+    for name in ("summed", "power", "zero"):
         for handed in HANDED:
             yield name, copy.deepcopy(handed)
+    for handed in HANDED:
+        for k in ([-1, 0, 0], [2, 0, 0], [1, 0], [FAR, 0, 0]):
+            yield "equal", copy.deepcopy(handed + [k])
 
 
 def called(name, handed, module=reflections):

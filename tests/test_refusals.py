@@ -3,7 +3,7 @@
 import itertools
 import unittest
 
-from crystalsums.reflections import power, summed
+from crystalsums.reflections import equal, power, summed, zero
 from tests.crystals import CUBE, FAR, LARGE, described, scattered_points
 
 POINTS = described(4, (1, 0, 0, 0), (2, 1, 2, 3))
@@ -14,6 +14,10 @@ H = [1, 0, -2]
 CALLS = {
     "summed": summed,
     "power": power,
+    "zero": zero,
+    "equal, h": lambda cell, points, weights, h: equal(cell, points, weights, h, H),
+    "equal, k": lambda cell, points, weights, h: equal(cell, points, weights, H, h),
+    "equal, both": lambda cell, points, weights, h: equal(cell, points, weights, h, h),
 }
 
 OUTSIDE = (LARGE + 1, -LARGE - 1, LARGE + 2, FAR, -FAR, FAR - 1, 2 ** 32, -2 ** 32, 2 ** 32 + 1)
@@ -46,8 +50,8 @@ class RowsNotAsTold(Answers):
         self.check(0)
 
     def test_the_cell_has_seven_numbers(self):
-        for count in range(7):
-            self.check(-1, cell=CUBE[:count])
+        for count in (0, 1, 2, 3, 4, 5, 6, 8):
+            self.check(-1, cell=(CUBE + [1])[:count])
 
     def test_points_are_one_and_some_fours(self):
         row = scattered_points(120, 74, 9)
@@ -64,9 +68,9 @@ class RowsNotAsTold(Answers):
             self.check(-1, weights=[0] * count)
 
     def test_an_index_has_three_numbers(self):
-        for count in (0, 1, 2):
-            self.check(-1, h=[0, 0, 0][:count])
-            self.check(-1, h=[1, 2, 3][:count])
+        for count in (0, 1, 2, 4):
+            self.check(-1, h=[0, 0, 0, 0][:count])
+            self.check(-1, h=[1, 2, 3, 4][:count])
 
 
 class NumbersNotAsTold(Answers):
@@ -133,6 +137,12 @@ class CellsNotRight(Answers):
         self.check(-2, cell=cell_of((2, 2, 2), (-1, -1, -1)))
         self.check(0, cell=cell_of((2, 2, 2), (1, 1, 1)))
 
+    def test_a_determinant_above_0_is_not_enough(self):
+        # Two directions below 0 and one above, with g11 above 0 too.
+        for others in ((2, 2, 2), (-2, 2, -2), (2, -2, -2), (-2, -2, 2)):
+            self.check(-2, cell=cell_of((1, 1, 1), others))
+            self.check(-2, cell=cell_of((1, 1, 1), others, LARGE))
+
     def test_the_signs_of_the_last_three(self):
         for signs in itertools.product((1, -1), repeat=3):
             right = signs[0] * signs[1] * signs[2] == 1
@@ -153,7 +163,7 @@ class CellsNotRight(Answers):
     def test_small_cells_by_their_columns(self):
         columns = [x for x in itertools.product(range(-3, 4), repeat=3) if x > (0, 0, 0)]
         for diagonal in itertools.product((1, 2), repeat=3):
-            for others in itertools.product((-1, 0, 1), repeat=3):
+            for others in itertools.product((-2, -1, 0, 1, 2), repeat=3):
                 cell = cell_of(diagonal, others)
                 lengths = [sum(g * x * x for g, x in zip(diagonal, (a, b, c)))
                            + 2 * (others[0] * b * c + others[1] * a * c + others[2] * a * b) for a, b, c in columns]
