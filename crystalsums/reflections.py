@@ -98,8 +98,8 @@ def determinant(cell):
 
 
 def is_right(cell):
-    # All lengths are above 0 just if the three leading minors are; G being whole, this holds for whole columns
-    # as it does for all: where a length is 0, it is so for a whole column too.
+    # All lengths are above 0 just if the three leading minors are. That speaks of whole columns alone too: as G
+    # is whole, if any column's length isn't above 0, then some whole column's isn't.
     return cell[0] > 0 and cell[0] * cell[1] > cell[5] * cell[5] and determinant(cell) > 0
 
 
