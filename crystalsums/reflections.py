@@ -1,4 +1,4 @@
-"""The calls on sums of roots of unity, told as rows of whole numbers.
+"""The calls on sums of roots of unity, told as rows of whole numbers, and on what motions say of them.
 
 A polynomial is a list of its coefficients, the lowest power's first.
 """
@@ -8,6 +8,8 @@ LARGEST_NUMBER = 1048575
 LARGEST_KIND = 255
 MOST_WEIGHTS = 255
 MOST_POINTS = 64
+MOTION_NUMBERS = 13
+MOST_MOTIONS = 96
 NOT_AS_TOLD = -1
 NO_DESCRIPTION = -2
 
@@ -84,6 +86,18 @@ def are_weights(weights):
 
 def is_index(h):
     return len(h) == 3 and are_small(h)
+
+
+def each_motion(motions):
+    """Each motion's thirteen numbers: the matrix row by row, t's three, e."""
+    return [motions[k:k + MOTION_NUMBERS] for k in range(0, len(motions), MOTION_NUMBERS)]
+
+
+def are_motions(motions):
+    """Whether these are whole motions, each with an e from 1 on; none at all are whole too."""
+    if len(motions) % MOTION_NUMBERS != 0 or len(motions) > MOST_MOTIONS * MOTION_NUMBERS:
+        return False
+    return are_small(motions) and all([motion[12] >= 1 for motion in each_motion(motions)])
 
 
 def determinant(cell):
@@ -164,6 +178,15 @@ def strength_row(points, weights, h):
     return one_row(strength_by_powers(sum_by_powers(points, weights, h)))
 
 
+def row_times_matrix(h, motion):
+    return [h[0] * motion[k] + h[1] * motion[k + 3] + h[2] * motion[k + 6] for k in range(3)]
+
+
+def makes_extinct(motion, h):
+    shift = h[0] * motion[9] + h[1] * motion[10] + h[2] * motion[11]
+    return row_times_matrix(h, motion) == h and shift % motion[12] != 0
+
+
 def rank(d):
     """0 and the degree of the d-th cyclotomic polynomial, or a refusal."""
     if not is_order(d):
@@ -208,3 +231,21 @@ def equal(cell, points, weights, h, k):
     if refused < 0:
         return [refused]
     return [0, 1 if strength_row(points, weights, h) == strength_row(points, weights, k) else 0]
+
+
+def absent(motions, h):
+    """0 and 1 if h is extinct by the motions, else 0; or a refusal."""
+    if not (are_motions(motions) and is_index(h)):
+        return [NOT_AS_TOLD]
+    return [0, 1 if any([makes_extinct(motion, h) for motion in each_motion(motions)]) else 0]
+
+
+def going(motions, h):
+    """0 and the indices with which h goes by the motions, in order, each once; or a refusal."""
+    if not (are_motions(motions) and is_index(h)):
+        return [NOT_AS_TOLD]
+    met = [tuple(h)] + [tuple(row_times_matrix(h, motion)) for motion in each_motion(motions)]
+    answer = [0]
+    for index in sorted(set(met)):
+        answer.extend(index)
+    return answer

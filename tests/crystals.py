@@ -1,4 +1,4 @@
-"""What the tests of several calls need: descriptions, and an exact way of checking rows by another road.
+"""What the tests of several calls need: descriptions, motions, and an exact way of checking rows by another road.
 
 A row is checked modulo a prime p that leaves 1 by d: there the primitive roots of order d are whole numbers, as many
 as the cyclotomic polynomial's degree, so the values of a row of that length at all of them tell it modulo p; and p is
@@ -10,6 +10,8 @@ import math
 CUBE = [1, 1, 1, 0, 0, 0, 1]
 FAR = 4611686018427387904
 LARGE = 1048575
+IDENTITY = (1, 0, 0, 0, 1, 0, 0, 0, 1)
+INVERSION = (-1, 0, 0, 0, -1, 0, 0, 0, -1)
 
 # Deterministic for numbers below 3.3 * 10^24.
 WITNESSES = (2, 3, 5, 7, 11, 13, 17, 19, 23, 29, 31, 37, 41)
@@ -30,6 +32,10 @@ def scattered_points(d, count, kinds):
         place = (k * step + 1) % d ** 3
         points.append((1 + k % kinds, place % d, place // d % d, place // d ** 2))
     return described(d, *points)
+
+
+def motion(matrix, t=(0, 0, 0), e=1):
+    return list(matrix) + list(t) + [e]
 
 
 def is_prime(n):

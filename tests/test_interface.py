@@ -9,7 +9,7 @@ import sys
 import unittest
 
 from crystalsums import reflections
-from tests.crystals import CUBE, FAR, LARGE, described, scattered_points
+from tests.crystals import CUBE, FAR, IDENTITY, INVERSION, LARGE, described, motion, scattered_points
 
 PARAMETERS = {
     "rank": ["d"],
@@ -18,6 +18,8 @@ PARAMETERS = {
     "power": ["cell", "points", "weights", "h"],
     "zero": ["cell", "points", "weights", "h"],
     "equal": ["cell", "points", "weights", "h", "k"],
+    "absent": ["motions", "h"],
+    "going": ["motions", "h"],
 }
 
 SMALL = described(6, (1, 0, 0, 0), (2, 1, 0, 0), (1, 2, 0, 0))
@@ -40,6 +42,20 @@ HANDED = [
     [CUBE, described(6, (1, 1, 0, 0), (2, 1, 0, 0)), [1, -1], [1, 0, 0]],
 ]
 
+# Motions and an index: answered ones, then refused ones.
+MOVED = [
+    [[], [1, 2, 3]],
+    [motion(IDENTITY, (1, 1, 1), 2), [1, 0, 0]],
+    [motion(INVERSION) + motion(IDENTITY, (0, 1, 1), 2), [-1, 2, 0]],
+    [motion(INVERSION, (LARGE, -LARGE, 0), LARGE) * 96, [LARGE, -LARGE, LARGE]],
+    [motion(IDENTITY) * 97, [1, 0, 0]],
+    [motion(IDENTITY)[:12], [1, 0, 0]],
+    [motion(IDENTITY, (0, 0, 0), 0), [1, 0, 0]],
+    [[-FAR] * 1300, [FAR, 0]],
+    [motion(IDENTITY), [1, 0]],
+    [motion(IDENTITY), [FAR, 0, 0]],
+]
+
 
 def cases():
     """Each call's name with something that it is handed, made anew."""
@@ -52,6 +68,9 @@ def cases():
     for handed in HANDED:
         for k in ([-1, 0, 0], [2, 0, 0], [1, 0], [FAR, 0, 0]):
             yield "equal", copy.deepcopy(handed + [k])
+    for name in ("absent", "going"):
+        for handed in MOVED:
+            yield name, copy.deepcopy(handed)
 
 
 def called(name, handed, module=reflections):
