@@ -1,6 +1,7 @@
-"""The calls on sums of roots of unity, told as rows of whole numbers, and on what motions say of them.
+"""The calls on sums of roots of unity, told as rows of whole numbers, on motions, and on lengths of indices.
 
-A polynomial is a list of its coefficients, the lowest power's first.
+A polynomial is a list of its coefficients, the lowest power's first. A form is a matrix that is the same row by row
+and column by column, as six numbers in a cell's order: 11 22 33 23 13 12.
 """
 
 LARGEST_ORDER = 120
@@ -10,8 +11,10 @@ MOST_WEIGHTS = 255
 MOST_POINTS = 64
 MOTION_NUMBERS = 13
 MOST_MOTIONS = 96
+MOST_INDICES = 4096
 NOT_AS_TOLD = -1
 NO_DESCRIPTION = -2
+TOO_MANY = -9
 
 
 def is_order(d):
@@ -100,15 +103,23 @@ def are_motions(motions):
     return are_small(motions) and all([motion[12] >= 1 for motion in each_motion(motions)])
 
 
-def determinant(cell):
-    """The determinant of the cell's matrix G."""
-    g11 = cell[0]
-    g22 = cell[1]
-    g33 = cell[2]
-    g23 = cell[3]
-    g13 = cell[4]
-    g12 = cell[5]
-    return g11 * (g22 * g33 - g23 * g23) - g12 * (g12 * g33 - g13 * g23) + g13 * (g12 * g23 - g13 * g22)
+def adjugate(form):
+    """The form's adjugate, a form too; of a cell its scale doesn't count."""
+    g11 = form[0]
+    g22 = form[1]
+    g33 = form[2]
+    g23 = form[3]
+    g13 = form[4]
+    g12 = form[5]
+    return [
+        g22 * g33 - g23 * g23, g11 * g33 - g13 * g13, g11 * g22 - g12 * g12,
+        g12 * g13 - g11 * g23, g12 * g23 - g22 * g13, g13 * g23 - g33 * g12,
+    ]
+
+
+def determinant(form):
+    beside = adjugate(form)
+    return form[0] * beside[0] + form[5] * beside[5] + form[4] * beside[4]
 
 
 def is_right(cell):
@@ -187,6 +198,106 @@ def makes_extinct(motion, h):
     return row_times_matrix(h, motion) == h and shift % motion[12] != 0
 
 
+def times(form, x, y):
+    """The row x times the form's matrix times the column y."""
+    straight = form[0] * x[0] * y[0] + form[1] * x[1] * y[1] + form[2] * x[2] * y[2]
+    across = form[3] * (x[1] * y[2] + x[2] * y[1]) + form[4] * (x[0] * y[2] + x[2] * y[0])
+    return straight + across + form[5] * (x[0] * y[1] + x[1] * y[0])
+
+
+def length(form, x):
+    return times(form, x, x)
+
+
+def less(x, y, factor):
+    return [x[k] - factor * y[k] for k in range(3)]
+
+
+def shortened(form, x, a):
+    """x less the multiple of a that leaves the shortest."""
+    whole = length(form, a)
+    return less(x, a, (2 * times(form, a, x) + whole) // (2 * whole))
+
+
+def shortened_by_both(form, x, a, b):
+    """x less the multiples of a and b that leave the shortest; b is no shorter than a, and shortened by it."""
+    ab = times(form, a, b)
+    aa = length(form, a)
+    below = (aa * times(form, b, x) - ab * times(form, a, x)) // (aa * length(form, b) - ab * ab)
+    # As a and b are far from lying in one line, b's multiple is one of the two beside the fraction that fits best.
+    first = shortened(form, less(x, b, below), a)
+    second = shortened(form, less(x, b, below + 1), a)
+    return first if length(form, first) <= length(form, second) else second
+
+
+def short_basis(form):
+    """Three indices of which all others are made, the shortest there are, rising in length."""
+    found = [[1, 0, 0], [0, 1, 0], [0, 0, 1]]
+    while True:
+        found = sorted(found, key=lambda x: length(form, x))
+        a = found[0]
+        b = shortened(form, found[1], a)
+        c = found[2]
+        if length(form, b) >= length(form, a):
+            c = shortened_by_both(form, c, a, b)
+            if length(form, c) >= length(form, b):
+                return [a, b, c]
+        found = [a, b, c]
+
+
+def short_form(form):
+    """The form by its short basis: it has the same lengths, each as often."""
+    found = short_basis(form)
+    a = found[0]
+    b = found[1]
+    c = found[2]
+    return [
+        length(form, a), length(form, b), length(form, c),
+        times(form, b, c), times(form, a, c), times(form, a, b),
+    ]
+
+
+def walked(p, q, r, start, step):
+    """The whole numbers n from start on, step by step, while p n^2 + 2 q n + r is at most 0."""
+    found = []
+    n = start
+    while p * n * n + 2 * q * n + r <= 0:
+        found.append(n)
+        n += step
+    return found
+
+
+def fitting(p, q, r):
+    """All whole numbers n with p n^2 + 2 q n + r at most 0, from the middle on; p is above 0."""
+    middle = -q // p
+    return walked(p, q, r, middle, -1) + walked(p, q, r, middle + 1, 1)
+
+
+def lengths_in_line(form, bound, y, z):
+    """The lengths up to the bound of all indices x y z with these y and z."""
+    half = form[5] * y + form[4] * z
+    rest = form[1] * y * y + 2 * form[3] * y * z + form[2] * z * z
+    return [form[0] * x * x + 2 * half * x + rest for x in fitting(form[0], half, rest - bound)]
+
+
+def is_crowded(form, bound):
+    """Whether the multiples of the first index alone are too many."""
+    return form[0] * (MOST_INDICES // 2 + 1) ** 2 <= bound
+
+
+def lengths(form, bound):
+    """The lengths up to the bound of all indices, 0 0 0 too, by a short form; broken off where they are too many."""
+    beside = adjugate(form)
+    found = []
+    # z and y are walked as far as some x, whole or not, would fit. In a short form few of them have no whole one.
+    for z in fitting(determinant(form), 0, -bound * beside[2]):
+        for y in fitting(beside[2], -beside[3] * z, beside[1] * z * z - form[0] * bound):
+            found.extend(lengths_in_line(form, bound, y, z))
+            if len(found) > MOST_INDICES + 1:
+                return found
+    return found
+
+
 def rank(d):
     """0 and the degree of the d-th cyclotomic polynomial, or a refusal."""
     if not is_order(d):
@@ -248,4 +359,28 @@ def going(motions, h):
     answer = [0]
     for index in sorted(set(met)):
         answer.extend(index)
+    return answer
+
+
+def lines(bound, cell):
+    """0 and of each line up to the bound its length and how many indices have it, rising; or a refusal."""
+    if not is_cell(cell):
+        return [NOT_AS_TOLD]
+    if not is_right(cell):
+        return [NO_DESCRIPTION]
+    form = short_form(adjugate(cell))
+    # Asked ahead, as there the walks to all lengths would be long.
+    if is_crowded(form, bound):
+        return [TOO_MANY]
+    found = lengths(form, bound)
+    if len(found) > MOST_INDICES + 1:
+        return [TOO_MANY]
+    counts = {}
+    for number in sorted(found):
+        counts[number] = counts.get(number, 0) + 1
+    answer = [0]
+    for number in counts:
+        # Only 0 0 0 has the length 0, and it is in no line.
+        if number > 0:
+            answer.extend([number, counts[number]])
     return answer

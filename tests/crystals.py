@@ -8,6 +8,7 @@ larger than any coefficient that comes up.
 import math
 
 CUBE = [1, 1, 1, 0, 0, 0, 1]
+HEXAGON = [2, 2, 3, 0, 0, -1, 1]
 FAR = 4611686018427387904
 LARGE = 1048575
 IDENTITY = (1, 0, 0, 0, 1, 0, 0, 0, 1)

@@ -4,7 +4,7 @@ import itertools
 import unittest
 
 from crystalsums.reflections import absent, equal, going, zero
-from tests.crystals import CUBE, FAR, IDENTITY, INVERSION, LARGE, described, motion
+from tests.crystals import CUBE, FAR, HEXAGON, IDENTITY, INVERSION, LARGE, described, motion
 
 TURN_Z = (-1, 0, 0, 0, -1, 0, 0, 0, 1)
 QUARTER_Z = (0, -1, 0, 1, 0, 0, 0, 0, 1)
@@ -277,7 +277,6 @@ def kept_crystal(motions, d, seeds):
     return described(d, *[(kind,) + place for place, kind in points.items()])
 
 
-HEXAGON = [2, 2, 3, 0, 0, -1, 1]
 # Their motions, d, a place of each kind, a cell that they keep.
 CRYSTALS = {
     "a screw and inversion": ([SCREW, motion(INVERSION)], 6, [(1, 2, 0), (0, 1, 5)], [2, 3, 4, 0, 0, 1, 1]),
